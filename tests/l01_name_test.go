@@ -295,9 +295,7 @@ func labelsOfText(s string) ([]impl.Label, bool) {
 
 // Every text of up to seven of these bytes is read as its form says.
 func TestParseLabelsOfAllShortTexts(t *testing.T) {
-	texts := []string{""}
-	for i := 0; i < len(texts); i++ {
-		s := texts[i]
+	eachShortText(7, []string{"a", "b", "=", ",", "-"}, func(s string) {
 		want, ok := labelsOfText(s)
 		got, gotOk := impl.ParseLabels(s)
 		if gotOk != ok || !slices.Equal(got, want) {
@@ -306,10 +304,7 @@ func TestParseLabelsOfAllShortTexts(t *testing.T) {
 		if ok && impl.LabelsText(got) != s {
 			t.Fatalf("%q came back as %q", s, impl.LabelsText(got))
 		}
-		for j := 0; len(s) < 7 && j < 5; j++ {
-			texts = append(texts, s+"ab=,-"[j:j+1])
-		}
-	}
+	})
 }
 
 // What is set is found, and nothing else is otherwise: against a map, over many steps.

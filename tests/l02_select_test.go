@@ -186,36 +186,13 @@ func TestParseSelectorRefuses(t *testing.T) {
 
 // Every text of up to six of these pieces is read as its form says.
 func TestParseSelectorOfAllShortTexts(t *testing.T) {
-	pieces := []string{"a", "b", "=", "!", ",", " in (", ")", " ", "("}
-	texts := []string{""}
-	for first, length := 0, 0; length <= 6; length++ {
-		behind := len(texts)
-		for _, s := range texts[first:behind] {
-			readsAsItsForm(t, s)
-			for _, p := range pieces {
-				if length < 6 {
-					texts = append(texts, s+p)
-				}
-			}
-		}
-		first = behind
-	}
+	eachShortText(6, []string{"a", "b", "=", "!", ",", " in (", ")", " ", "("}, func(s string) { readsAsItsForm(t, s) })
 }
 
 // Every text that is one byte away from a right one is read as its form says.
 func TestParseSelectorOfNearTexts(t *testing.T) {
 	for _, s := range append(slices.Clone(rightTexts), "ab in (cd ef),!gh,ij!=kl,mn=op,qr") {
-		for i := range len(s) + 1 {
-			if i < len(s) {
-				readsAsItsForm(t, s[:i]+s[i+1:])
-			}
-			for _, c := range "ab!=,() -A0\n" {
-				readsAsItsForm(t, s[:i]+string(c)+s[i:])
-				if i < len(s) {
-					readsAsItsForm(t, s[:i]+string(c)+s[i+1:])
-				}
-			}
-		}
+		eachNearText(s, "ab!=,() -A0\n", func(s string) { readsAsItsForm(t, s) })
 	}
 }
 
