@@ -31,6 +31,15 @@ func nameRune(r rune) bool {
 	return 'a' <= r && r <= 'z' || '0' <= r && r <= '9' || r == '-'
 }
 
+func ascendingNames(l []string) bool {
+	for i, name := range l {
+		if !NameOk(name) || i > 0 && l[i-1] >= name {
+			return false
+		}
+	}
+	return true
+}
+
 func LabelsOk(l []Label) bool {
 	if len(l) > MaxLabels {
 		return false

@@ -232,12 +232,8 @@ func TestParseAmountOfAllShortTexts(t *testing.T) {
 
 // Every text that is one byte away from an amount's text is read as its form says.
 func TestParseAmountOfNearTexts(t *testing.T) {
-	anyByte := []byte{}
-	for b := range 256 {
-		anyByte = append(anyByte, byte(b))
-	}
 	for _, n := range []int{0, 1, 500, 1000, 1500, 12000, 1024000, 1536000, 1048576000, 3221225472000, mostAmount - 1, mostAmount - 1000, mostAmount} {
-		eachNearText(impl.AmountText(n), string(anyByte), func(s string) { readsAmountAsItsForm(t, s) })
+		eachNearText(impl.AmountText(n), everyByte(), func(s string) { readsAmountAsItsForm(t, s) })
 	}
 }
 

@@ -30,3 +30,12 @@ func eachNearText(s string, bytes string, do func(s string)) {
 		}
 	}
 }
+
+// everyByte has each byte there is once.
+func everyByte() string {
+	out := []byte{}
+	for b := range 256 {
+		out = append(out, byte(b))
+	}
+	return string(out)
+}
