@@ -490,16 +490,7 @@ func placeIn(b *impl.Base, i int) *impl.Obj {
 }
 
 func TestBaseOk(t *testing.T) {
-	for why, b := range rightBases() {
-		if !isBase(b) || !impl.BaseOk(b) {
-			t.Errorf("%.60s: %v, by the words %v", why, impl.BaseOk(b), isBase(b))
-		}
-	}
-	for why, b := range wrongBases() {
-		if isBase(b) || impl.BaseOk(b) {
-			t.Errorf("%.60s: %v, by the words %v", why, impl.BaseOk(b), isBase(b))
-		}
-	}
+	tellsApart(t, rightBases(), wrongBases(), isBase, impl.BaseOk)
 }
 
 // At each number of a base, of an object and of a Change, what is met is accepted, and what passes it by one is not.

@@ -342,16 +342,7 @@ func wrongMirrors() map[string]impl.Mirror {
 }
 
 func TestMirrorOk(t *testing.T) {
-	for why, m := range rightMirrors() {
-		if !isMirror(m) || !impl.MirrorOk(m) {
-			t.Errorf("%.60s: %v, by the words %v", why, impl.MirrorOk(m), isMirror(m))
-		}
-	}
-	for why, m := range wrongMirrors() {
-		if isMirror(m) || impl.MirrorOk(m) {
-			t.Errorf("%.60s: %v, by the words %v", why, impl.MirrorOk(m), isMirror(m))
-		}
-	}
+	tellsApart(t, rightMirrors(), wrongMirrors(), isMirror, impl.MirrorOk)
 	for n := mostObjs - 1; n <= mostObjs+2; n++ {
 		if impl.MirrorOk(impl.Mirror{Rev: 99, Objs: crowd(n)}) != (n <= mostObjs) {
 			t.Error(n, "objects")
