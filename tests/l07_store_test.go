@@ -394,13 +394,13 @@ var wrongNames = []string{"", "-", "a-", "-a", "A", "a b", " ", "a\n", "é", "\x
 // wrongKinds are none.
 var wrongKinds = []int{0, -1, 4, 5, -3, 1 << 32, 1<<32 + 1, math.MaxInt, math.MinInt}
 
-// wrongWaits are no Waits; more than 4 of them stand at the end.
-func wrongWaits() [][]string {
+// wrongRows are no ascending names of which there are at most so many.
+func wrongRows(most int) [][]string {
 	out := [][]string{{"b", "a"}, {"a", "a"}, {"a", "c", "b"}, {"a", "b", "b"}, {"a", "b", "c", "c"}, {"a9", "a10"}, {"aa", "a"}}
 	for _, s := range wrongNames {
 		out = append(out, []string{s}, []string{"a", "b", "c", s}, []string{s, "x"})
 	}
-	return append(out, strings.Fields("a b c d e"), strings.Fields("a b c d e f g h"), slices.Repeat([]string{"a"}, 5), ascendingNames(1000))
+	return append(out, ascendingNames(most+1), ascendingNames(2*most), slices.Repeat([]string{"a"}, most+1), ascendingNames(1000))
 }
 
 // spoilObj makes an object wrong, by what is wrong with it then, in a base of this Rev and Next.
@@ -420,7 +420,7 @@ func spoilObj(rev, next int) map[string]func(o *impl.Obj) {
 	for _, s := range wrongNames {
 		out["the name "+strconv.Quote(s[:min(30, len(s))])] = func(o *impl.Obj) { o.Name = s }
 	}
-	for i, w := range wrongWaits() {
+	for i, w := range wrongRows(4) {
 		out["wrong Waits "+strconv.Itoa(i)] = func(o *impl.Obj) { o.Waits = w }
 	}
 	return out
@@ -579,7 +579,7 @@ func wrongCalls() []call {
 		for _, kind := range wrongKinds {
 			out = append(out, create(kind, name, numOf(1), ""), update(kind, name, 3, numOf(1)), status(kind, name, 3, numOf(1)), remove(kind, name), finish(kind, name, "hub"))
 		}
-		for _, w := range wrongWaits() {
+		for _, w := range wrongRows(4) {
 			c := create(1, name, numOf(1), "")
 			c.waits = w
 			out = append(out, c)
